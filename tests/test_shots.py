@@ -2,7 +2,7 @@ import unittest
 
 from asking import (
     AGE_DISTRIBUTION, MAKE_SHOT, MAKE_VIRGIN_SHOT, RESET,
-    ask, create, last, set_regrind, set_retention, state_calls,
+    ask, create, set_regrind, set_retention, state_calls,
 )
 
 
@@ -62,10 +62,7 @@ class MakeShot(unittest.TestCase):
         self.assertEqual(told[2], [2, 3, 4])
         self.assertEqual(told[4], [3, 1, 1])
         # 1/2 + 1/4 * 1/20 + 1/8 * 1/400 + 1/8 * 1/8000, ages 0 to 3 with the new retention.
-        self.assertEqual(last([
-            create(2, 4, 2, 4), MAKE_SHOT, MAKE_SHOT, set_retention(4, 4), MAKE_SHOT,
-            set_retention(1, 20), MAKE_SHOT,
-        ]), [4, 32821, 64000])
+        self.assertEqual(told[6], [4, 32821, 64000])
 
     def test_twelve_shots_then_no_more(self):
         for call in (MAKE_SHOT, MAKE_VIRGIN_SHOT):
