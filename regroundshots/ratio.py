@@ -24,8 +24,16 @@ def plus(one, other):
     return reduced(one[0] * other[1] + other[0] * one[1], one[1] * other[1])
 
 
+def minus(one, other):
+    return reduced(one[0] * other[1] - other[0] * one[1], one[1] * other[1])
+
+
 def times(one, other):
     return reduced(one[0] * other[0], one[1] * other[1])
+
+
+def less(one, other):
+    return one[0] * other[1] < other[0] * one[1]
 
 
 def total_of(ratios):

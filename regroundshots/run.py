@@ -13,14 +13,16 @@ RESET = 5
 AGE_FRACTION = 6
 OLDER_THAN = 7
 AGE_DISTRIBUTION = 8
+STRENGTH = 9
+MEAN_AGE = 10
+LIMITS = 11
+STRENGTH_ABOVE_LIMIT = 12
+STRENGTH_AFTER = 13
+MAX_REGRIND = 14
+FIRST_WEAK_SHOT = 15
 
-# By the call's number, 0 to 17. Calls 9 to 17 can be read, and refused where
-# there is no instance, but what they do is not built yet.
+# By the call's number, 0 to 17.
 ARGUMENT_COUNTS = (4, 0, 0, 1, 2, 0, 1, 1, 0, 0, 0, 0, 0, 1, 2, 2, 2, 0)
-
-
-class CallNotBuilt(Exception):
-    """A call that this program does not answer yet was made on an instance."""
 
 
 def answer_change(process, number, given):
@@ -35,14 +37,32 @@ def answer_change(process, number, given):
     return process.reset()
 
 
-def answer_query(process, number, given):
+def answer_query(process, number):
+    if number == AGE_DISTRIBUTION:
+        return process.age_distribution()
+    if number == STRENGTH:
+        return process.strength()
+    if number == MEAN_AGE:
+        return process.mean_age()
+    if number == LIMITS:
+        return process.limits()
+    if number == STRENGTH_ABOVE_LIMIT:
+        return process.strength_above_limit()
+    return process.describe()
+
+
+def answer_query_with(process, number, given):
     if number == AGE_FRACTION:
         return process.age_fraction(given[0])
     if number == OLDER_THAN:
         return process.older_than(given[0])
-    if number == AGE_DISTRIBUTION:
-        return process.age_distribution()
-    raise CallNotBuilt(f"call {number} is not built yet")
+    if number == STRENGTH_AFTER:
+        return process.strength_after(given[0])
+    if number == MAX_REGRIND:
+        return process.max_regrind(given[0], given[1])
+    if number == FIRST_WEAK_SHOT:
+        return process.first_weak_shot(given[0], given[1])
+    return process.strength_after_if(given[0], given[1])
 
 
 def answer_call(process, number, given):
@@ -50,7 +70,9 @@ def answer_call(process, number, given):
         return [NO_INSTANCE]
     if number <= RESET:
         return answer_change(process, number, given)
-    return answer_query(process, number, given)
+    if len(given) == 0:
+        return answer_query(process, number)
+    return answer_query_with(process, number, given)
 
 
 def answers(calls):

@@ -36,6 +36,36 @@ def older_than(k):
 
 
 AGE_DISTRIBUTION = [8]
+STRENGTH = [9]
+MEAN_AGE = [10]
+LIMITS = [11]
+STRENGTH_ABOVE_LIMIT = [12]
+
+
+def strength_after(n):
+    return [13, n]
+
+
+def max_regrind(num, den):
+    return [14, num, den]
+
+
+def first_weak_shot(num, den):
+    return [15, num, den]
+
+
+def strength_after_if(regrind, n):
+    return [16, regrind, n]
+
+
+DESCRIBE = [17]
+
+# Thresholds that are refused, some of them with a num that no value could reach.
+WRONG_THRESHOLDS = [
+    (-1, 1), (-1, 1000), (LOWEST, 1), (1, 0), (0, 0), (1, -1), (0, -1), (1, 1001), (0, 1001),
+    (1, LOWEST), (1, HIGHEST), (HIGHEST, 0), (HIGHEST, 1001), (-1, 0), (-1, 1001),
+    (LOWEST, LOWEST), (HIGHEST, HIGHEST),
+]
 
 
 def ask(calls):
@@ -59,6 +89,11 @@ def ask(calls):
 
 def last(calls):
     return ask(calls)[-1]
+
+
+def asked_behind(ahead, calls):
+    """The answers to these calls alone, behind others of the same request."""
+    return ask(ahead + calls)[len(ahead):]
 
 
 def state_calls(parts):

@@ -2,15 +2,11 @@ import unittest
 
 from asking import (
     AGE_DISTRIBUTION, HIGHEST, LOWEST, MAKE_SHOT, MAKE_VIRGIN_SHOT, RESET,
-    age_fraction, ask, create, older_than, set_regrind,
+    age_fraction, asked_behind, create, older_than, set_regrind,
 )
 
 # The ages of the third shot: 1/4, 3/16, 9/16.
 THREE_SHOTS = [create(3, 4, 1, 2), MAKE_SHOT, MAKE_SHOT, MAKE_SHOT]
-
-
-def asked_behind(ahead, calls):
-    return ask(ahead + calls)[len(ahead):]
 
 
 class AgeFraction(unittest.TestCase):

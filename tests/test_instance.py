@@ -1,16 +1,20 @@
 import unittest
 
 from asking import (
-    AGE_DISTRIBUTION, HIGHEST, LOWEST, MAKE_SHOT, MAKE_VIRGIN_SHOT, RESET,
-    age_fraction, ask, create, last, older_than, set_regrind, set_retention, state_calls,
+    AGE_DISTRIBUTION, DESCRIBE, HIGHEST, LIMITS, LOWEST, MAKE_SHOT, MAKE_VIRGIN_SHOT, MEAN_AGE,
+    RESET, STRENGTH, STRENGTH_ABOVE_LIMIT, age_fraction, ask, create, first_weak_shot, last,
+    max_regrind, older_than, set_regrind, set_retention, state_calls, strength_after,
+    strength_after_if,
 )
 
 # Every call but create, those with wrong arguments too: -11 is checked first.
 OTHER_CALLS = [
     MAKE_SHOT, MAKE_VIRGIN_SHOT, set_regrind(0), set_regrind(-1), set_retention(1, 1),
     set_retention(0, 0), RESET, age_fraction(0), age_fraction(-1), older_than(0),
-    older_than(-1), AGE_DISTRIBUTION, [9], [10], [11], [12], [13, 1], [13, 0],
-    [14, 1, 1], [14, -1, 0], [15, 1, 1], [15, -1, 0], [16, 0, 1], [16, -1, 0], [17],
+    older_than(-1), AGE_DISTRIBUTION, STRENGTH, MEAN_AGE, LIMITS, STRENGTH_ABOVE_LIMIT,
+    strength_after(1), strength_after(0), strength_after(HIGHEST), max_regrind(1, 1),
+    max_regrind(-1, 0), max_regrind(2, 1), first_weak_shot(1, 1), first_weak_shot(-1, 0),
+    first_weak_shot(0, 1), strength_after_if(0, 1), strength_after_if(-1, 0), DESCRIBE,
 ]
 
 
